@@ -1,0 +1,1 @@
+"""Times: the calendar, clocks by tables and rules, spans, recurrences."""
