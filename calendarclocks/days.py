@@ -76,6 +76,21 @@ def date_of(n):
     return [y, m, ahead - days_before_month(y, m) + 1]
 
 
+def month_number(n):
+    """The number of the month in which the day of number n lies: months from the beginning of year 0."""
+    date = date_of(n)
+    return date[0] * 12 + date[1] - 1
+
+
+def is_month(number):
+    return 1 <= number // 12 <= LAST_YEAR
+
+
+def month_first(number):
+    """The number of the first day of the month of that number; the one behind the last month has one too."""
+    return day_number(number // 12, number % 12 + 1, 1)
+
+
 def weekday_of(n):
     """0 (Monday) to 6; day 0 is a 3."""
     return (n + 3) % 7

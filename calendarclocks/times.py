@@ -2,6 +2,11 @@
 
 from calendarclocks.clocks import Clock, clock_from, moments_of, offset_at
 from calendarclocks.days import DAY_SECONDS, date_of, day_number, is_date, is_day, is_moment, week_of, weekday_of
+from calendarclocks.recurrences import count_between, is_one, nth_between, recurrence_from
+from calendarclocks.spans import add_span, is_span, span_between
+
+# How many days count and nth look at, at most.
+MOST_LOOKED_AT = 100000
 
 
 class UnknownCall(ValueError):
@@ -13,6 +18,7 @@ class Kept:
 
     def __init__(self):
         self.clock = Clock(0, [], [])
+        self.recurrence = None
 
 
 def answer_day(y, m, d):
@@ -65,6 +71,58 @@ def answer_when(kept, numbers):
     return [len(moments)] + moments
 
 
+def answer_add(n, months, days, how):
+    if not (is_day(n) and is_span(months, days, how)):
+        return [-1]
+    day = add_span(n, months, days, how)
+    if day is None:
+        return [-4]
+    return [0, day]
+
+
+def answer_far(a, b):
+    if not (is_day(a) and is_day(b) and a <= b):
+        return [-1]
+    return [0] + span_between(a, b)
+
+
+def answer_setrecur(kept, numbers):
+    recurrence = recurrence_from(numbers)
+    if recurrence is None:
+        return [-5]
+    kept.recurrence = recurrence
+    return [0]
+
+
+def answer_isone(kept, n):
+    if kept.recurrence is None:
+        return [-3]
+    if not is_day(n):
+        return [-1]
+    return [1 if is_one(kept.recurrence, n) else 0]
+
+
+def answer_count(kept, a, b):
+    if kept.recurrence is None:
+        return [-3]
+    if not (is_day(a) and is_day(b)):
+        return [-1]
+    if b - a >= MOST_LOOKED_AT:
+        return [-2]
+    return [count_between(kept.recurrence, a, b)]
+
+
+def answer_nth(kept, a, k):
+    if kept.recurrence is None:
+        return [-3]
+    if not is_day(a) or k < 0:
+        return [-1]
+    day = nth_between(kept.recurrence, a, a + MOST_LOOKED_AT - 1, k)
+    if day is None:
+        return [-4]
+    return [0, day]
+
+
 def answer_call(kept, call, numbers):
     if call == 1:
         return answer_day(numbers[0], numbers[1], numbers[2])
@@ -78,6 +136,18 @@ def answer_call(kept, call, numbers):
         return answer_read(kept, numbers[0])
     if call == 6:
         return answer_when(kept, numbers)
+    if call == 7:
+        return answer_add(numbers[0], numbers[1], numbers[2], numbers[3])
+    if call == 8:
+        return answer_far(numbers[0], numbers[1])
+    if call == 9:
+        return answer_setrecur(kept, numbers)
+    if call == 10:
+        return answer_isone(kept, numbers[0])
+    if call == 11:
+        return answer_count(kept, numbers[0], numbers[1])
+    if call == 12:
+        return answer_nth(kept, numbers[0], numbers[1])
     raise UnknownCall("a call that is not answered")
 
 

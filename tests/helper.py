@@ -1,4 +1,4 @@
-"""What the tests share: how calls are handed in, and a clock that is slow but plain."""
+"""What the tests share: how calls are handed in, and a clock and a recurrence that are slow but plain."""
 
 import bisect
 import calendar
@@ -7,6 +7,9 @@ import datetime
 from calendarclocks.times import answers
 
 DAY, DATE, SETCLOCK, OFFSET, READ, WHEN = 1, 2, 3, 4, 5, 6
+ADD, FAR, SETRECUR, ISONE, COUNT, NTH = 7, 8, 9, 10, 11, 12
+
+BY_DAY, BY_WEEK, BY_MONTH, BY_YEAR = 0, 1, 2, 3
 
 FIRST_DAY = -719162
 LAST_DAY = 2932896
@@ -46,6 +49,20 @@ def ask_one(*call):
     return ask(call)[0]
 
 
+def in_lines(calls, *ahead):
+    """The answers to more calls than one list may hold, each list begun with the calls ahead."""
+    found = []
+    size = 400 - len(ahead)
+    for at in range(0, len(calls), size):
+        found += ask(*ahead, *calls[at:at + size])[len(ahead):]
+    return found
+
+
+def day(y, m, d):
+    """The number of the day."""
+    return (datetime.date(y, m, d) - EPOCH).days
+
+
 def clock_call(first, changes=(), rules=()):
     numbers = [first, len(changes)]
     for change in changes:
@@ -58,7 +75,7 @@ def clock_call(first, changes=(), rules=()):
 
 def moment(y, m, d, h=0, minute=0, s=0):
     """The moment of a reading by offset 0."""
-    return ((datetime.date(y, m, d) - EPOCH).days * 24 + h) * 3600 + minute * 60 + s
+    return (day(y, m, d) * 24 + h) * 3600 + minute * 60 + s
 
 
 def rule_moment(rule, y):
@@ -95,6 +112,60 @@ class PlainClock:
 
 def reading(shown):
     """The six numbers of the reading by offset 0 at the moment shown."""
-    day = EPOCH + datetime.timedelta(days=shown // 86400)
+    date = EPOCH + datetime.timedelta(days=shown // 86400)
     s = shown % 86400
-    return [day.year, day.month, day.day, s // 3600, s // 60 % 60, s % 60]
+    return [date.year, date.month, date.day, s // 3600, s // 60 % 60, s % 60]
+
+
+def recur_call(by, every, first, until=None, days=(), months=(), pairs=()):
+    numbers = [by, every, first, 0 if until is None else 1, until or 0]
+    numbers += [len(days), *days, len(months), *months, len(pairs)]
+    for pair in pairs:
+        numbers += pair
+    return (SETRECUR, *numbers)
+
+
+def recurs(n, by, every, first, until=None, days=(), months=(), pairs=()):
+    """The document's words, taken one by one: whether the day is one of the recurrence's."""
+    date = EPOCH + datetime.timedelta(days=n)
+    start = EPOCH + datetime.timedelta(days=first)
+    if n < first or (until is not None and n > until) or (months and date.month not in months):
+        return False
+    if by == BY_DAY:
+        return (n - first) % every == 0
+    if by == BY_WEEK:
+        weeks = ((n - date.weekday()) - (first - start.weekday())) // 7
+        return weeks % every == 0 and date.weekday() in days
+    turns = date.year - start.year
+    if by == BY_MONTH:
+        turns = turns * 12 + date.month - start.month
+    if turns % every != 0:
+        return False
+    return any(tells_day(date, number) for number in days) or any(tells_pair(date, *pair) for pair in pairs)
+
+
+def tells_day(date, number):
+    length = calendar.monthrange(date.year, date.month)[1]
+    return date.day == number or date.day == length + 1 + number
+
+
+def tells_pair(date, k, w):
+    found = [week[w] for week in calendar.monthcalendar(date.year, date.month) if week[w]]
+    at = k - 1 if k > 0 else len(found) + k
+    return 0 <= at < len(found) and found[at] == date.day
+
+
+def random_recurrence(source, first):
+    """Arguments of recur_call, with a from at or somewhat behind the day first."""
+    by = source.randint(0, 3)
+    every = source.choice((1, 1, 2, 3, 5, 12))
+    until = source.choice((None, None, min(LAST_DAY, first + source.randint(0, 1500))))
+    months = sorted(source.sample(range(1, 13), source.choice((0, 0, 1, 3, 11, 12))))
+    days, pairs = [], []
+    if by == BY_WEEK:
+        days = sorted(source.sample(range(7), source.randint(1, 7)))
+    if by >= BY_MONTH:
+        days = sorted(source.sample([*range(-31, 0), *range(1, 32)], source.choice((0, 1, 2, 6))))
+        every_pair = [(k, w) for k in (-5, -4, -3, -2, -1, 1, 2, 3, 4, 5) for w in range(7)]
+        pairs = sorted(source.sample(every_pair, source.choice((0, 1, 2, 6)) if days else source.choice((1, 2, 6))))
+    return by, every, min(LAST_DAY, first + source.choice((0, 0, 1, 40))), until, days, months, pairs

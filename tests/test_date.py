@@ -1,21 +1,13 @@
 import datetime
 import unittest
 
-from tests.helper import DATE, DAY, EPOCH, FIRST_DAY, HUGE, LAST_DAY, ask, ask_one
+from tests.helper import DATE, DAY, EPOCH, FIRST_DAY, HUGE, LAST_DAY, ask, ask_one, in_lines
 
 
 def expected(n):
     day = EPOCH + datetime.timedelta(days=n)
     week = day.isocalendar()
     return [0, day.year, day.month, day.day, day.weekday(), week[0], week[1]]
-
-
-def in_lines(calls):
-    """The answers to more calls than one list may hold."""
-    found = []
-    for at in range(0, len(calls), 400):
-        found += ask(*calls[at:at + 400])
-    return found
 
 
 class TestDate(unittest.TestCase):
